@@ -1,0 +1,57 @@
+import importlib
+import inspect
+import pathlib
+import unittest
+
+import leastpowers
+
+# The modules in the order in which they may use one another, with their functions and the parameters of these.
+INTERFACE = {
+    "errors": {},
+    "forms": {
+        "is_integer": "thing", "is_order": "thing", "is_fraction": "thing", "is_number": "thing",
+        "is_quotient": "thing", "are_bounds": "thing", "is_wait": "many, thing", "is_system": "thing",
+        "is_plan": "system, thing", "is_table": "thing", "is_telling": "table, thing", "are_orders": "table, thing",
+    },
+    "numbers": {
+        "term": "power, factor", "total": "numbers", "less": "one, other", "times": "one, other",
+        "leading_of": "number", "quotient": "num, den", "total_of": "quotients", "times_of": "one, other",
+        "over_of": "one, other", "order_of": "number", "quotient_order": "one", "later": "order, delay", "least_order": "orders",
+        "least_items": "one, other", "are_equal": "one, other", "not_above": "one, other",
+    },
+    "tables": {
+        "low_high": "table, row, unknown", "without_rights": "table", "with_row": "table, row",
+        "without_row": "table, index", "with_bounds": "table, row, place, least, greatest",
+        "renumbered": "table, order", "ordered_rows": "table, order", "moved_rows": "table, shifts",
+    },
+    "texts": {"show_table": "table", "show_system": "system"},
+}
+
+FOLDER = pathlib.Path(leastpowers.__file__).parent
+
+
+class InterfaceTest(unittest.TestCase):
+    def test_functions_have_their_names_and_parameters(self):
+        for file, functions in INTERFACE.items():
+            module = importlib.import_module(f"leastpowers.{file}")
+            for name, parameters in functions.items():
+                function = getattr(module, name)
+                self.assertTrue(inspect.isfunction(function), name)
+                self.assertEqual(f"leastpowers.{file}", function.__module__)
+                self.assertEqual(f"({parameters})", str(inspect.signature(function)), name)
+
+    def test_errors_have_their_parameters(self):
+        module = importlib.import_module("leastpowers.errors")
+        fields = {
+            "duty": ["Broken", "NoDuty"], "orders": ["CanBe", "NotSilent"], "row": ["NoFit", "NotExact"],
+            "index": ["NoIndex"], "event": ["NoPlan"], "line": ["NoText"], "unknown": ["NotTold"],
+            "most": ["TooMany"], "place": ["Wrong"],
+        }
+        for field, names in fields.items():
+            for name in names:
+                self.assertEqual(f"({field})", str(inspect.signature(getattr(module, name))), name)
+
+    def test_the_package_is_one_folder_of_these_files(self):
+        found = [path.name for path in FOLDER.iterdir() if path.name != "__pycache__"]
+        self.assertEqual(sorted(["__init__.py", *[f"{file}.py" for file in INTERFACE]]), sorted(found))
+        self.assertEqual("", (FOLDER / "__init__.py").read_text())
