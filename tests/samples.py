@@ -152,7 +152,8 @@ def drawn_within(draw, least, greatest):
 
 
 def drawn_wait(draw, many, size=5, most_options=3):
-    others = sorted(draw.sample(range(many), draw.randint(0, min(many, most_options))))
+    some = 0 if draw.random() < 0.07 else draw.randint(1, min(many, most_options))
+    others = sorted(draw.sample(range(many), some))
     return (draw.randrange(many), tuple([(other, draw.randint(-size, size)) for other in others]))
 
 

@@ -6,8 +6,8 @@ from samples import ANY, exchanged
 FIELDS = {
     "Broken": ["duty"], "CanBe": ["orders"], "NoCommand": [], "NoDuty": ["duty"], "NoFit": ["row"],
     "NoIndex": ["index"], "NoOrders": [], "NoPlan": ["event"], "NoQuotient": [], "NoText": ["line"],
-    "NotExact": ["row"], "NotSilent": ["orders"], "NotSquare": [], "NotTold": ["unknown"], "Nothing": [], "TooMany": ["most"],
-    "Wrong": ["place"],
+    "NotExact": ["row"], "NotSilent": ["orders"], "NotSquare": [], "NotTold": ["unknown"], "Nothing": [],
+    "TooMany": ["most"], "Wrong": ["place"],
 }
 
 

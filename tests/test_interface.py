@@ -16,8 +16,8 @@ INTERFACE = {
     "numbers": {
         "term": "power, factor", "total": "numbers", "less": "one, other", "times": "one, other",
         "leading_of": "number", "quotient": "num, den", "total_of": "quotients", "times_of": "one, other",
-        "over_of": "one, other", "order_of": "number", "quotient_order": "one", "later": "order, delay", "least_order": "orders",
-        "least_items": "one, other", "are_equal": "one, other", "not_above": "one, other",
+        "over_of": "one, other", "order_of": "number", "quotient_order": "one", "later": "order, delay",
+        "least_order": "orders", "least_items": "one, other", "are_equal": "one, other", "not_above": "one, other",
     },
     "tables": {
         "low_high": "table, row, unknown", "without_rights": "table", "with_row": "table, row",
@@ -25,6 +25,26 @@ INTERFACE = {
         "renumbered": "table, order", "ordered_rows": "table, order", "moved_rows": "table, shifts",
     },
     "texts": {"show_table": "table", "show_system": "system"},
+    "reader": {"read_table": "text", "read_system": "text"},
+    "plans": {
+        "keeps_wait": "plan, wait", "keeps": "system, plan", "unkept": "system, plan", "shifted": "plan, by",
+        "earliest_by": "plan, wait",
+    },
+    "leastplan": {
+        "least_plan": "system", "barred_events": "system", "together": "system, events", "with_waits": "system, more",
+        "without_waits": "system, indexes",
+    },
+    "ownwaits": {
+        "own_waits": "system", "is_own_waits": "system, thing", "is_decision": "system, event, thing",
+        "weights_for": "system, chosen", "decision_of": "system, event",
+    },
+    "floors": {
+        "least_from": "system, floors", "cause_of": "system, floors, event", "is_cause": "system, floors, event, thing",
+    },
+    "gaps": {
+        "with_gap": "system, one, other, gap", "gap_span": "system, one, other",
+        "plan_with_gap": "system, one, other, gap", "gap_paper": "system, one, other, gap",
+    },
 }
 
 FOLDER = pathlib.Path(leastpowers.__file__).parent
