@@ -3,7 +3,7 @@
 from leastpowers.errors import NoPlan
 from leastpowers.floors import least_from
 from leastpowers.leastplan import barred_events, least_plan, with_waits
-from leastpowers.ownwaits import own_waits
+from leastpowers.ownwaits import own_waits_for
 
 
 def with_gap(system, one, other, gap):
@@ -45,5 +45,4 @@ def plan_with_gap(system, one, other, gap):
 
 def gap_paper(system, one, other, gap):
     """Own waits that show that no plan has so great a gap, None if there are none."""
-    own = own_waits(with_gap(system, one, other, gap))
-    return own if other in own else None
+    return own_waits_for(with_gap(system, one, other, gap), other)

@@ -39,6 +39,17 @@ def is_before_options(system, own, event):
     return True
 
 
+def own_waits_for(system, event):
+    """Own waits of which an event is a key, None if it is not barred."""
+    own = own_waits(system)
+    return own if event in own else None
+
+
+def are_own_waits_for(system, event, thing):
+    """Whether thing is own waits of a system of which an event is a key."""
+    return is_own_waits(system, thing) and event in thing
+
+
 def weights_for(system, chosen):
     """Own waits with just the waits of a dict from events to indexes of waits, None if there are none."""
     waits = system[1]
@@ -76,4 +87,4 @@ def is_decision(system, event, thing):
     word, paper = thing
     if word == "plan":
         return is_plan(system, paper) and keeps(system, paper) and paper[event] is not None
-    return word == "own" and is_own_waits(system, paper) and event in paper
+    return word == "own" and are_own_waits_for(system, event, paper)

@@ -1,5 +1,6 @@
 """Slow answers, straight from the words of the document, for comparison."""
 
+import fractions
 import itertools
 import re
 
@@ -143,3 +144,95 @@ def causes(system, floors, event, most):
         # With the plan itself for floors, each start is a cause that may yet become one for the floors in question.
         starts = [start for start in longer if None not in plan and is_cause(system, plan, event, start)]
     return found
+
+
+def top_of(system, further=()):
+    """An order that no least plan of a system with further waits, and with what is contrary to them, goes beyond."""
+    delays = [abs(delay) + 1 for _, options in [*system[1], *further] for _, delay in options]
+    return system[0] * max(delays, default=0)
+
+
+def follows(system, wait):
+    """Whether a wait is kept by all plans that keep a system, with orders up to where a plan that does not would be."""
+    alone = (system[0], (wait,))
+    return all([keeps(alone, plan) for plan in plans(system, 0, top_of(system, [wait]))])
+
+
+def same_plans(one, other):
+    """Whether the same plans keep two systems."""
+    return all([follows(one, wait) for wait in other[1]]) and all([follows(other, wait) for wait in one[1]])
+
+
+def low_high(bounds):
+    """LOW and HIGH of bounds, by the definition."""
+    low = min([least for least, _ in bounds])
+    ends = [greatest for _, greatest in bounds if greatest is not None]
+    high = min(ends, default=None)
+    at = [greatest for _, greatest in bounds].index(high)
+    others = [least for place, (least, _) in enumerate(bounds) if place != at]
+    return (low, high if high is not None and all([least > high for least in others]) else None)
+
+
+def placed_waits(table):
+    """The tuples (row, wait) of the system of a table, by the definition."""
+    many, rows = table
+    found = []
+    for row, (sides, right) in enumerate(rows):
+        there = {}
+        for unknown, least, greatest in sides:
+            there.setdefault(unknown, []).append((least, greatest))
+        ends = {unknown: low_high(bounds) for unknown, bounds in there.items()}
+        if right is not None:
+            ends[many] = right
+        for event in range(many + 1):
+            if event in ends and ends[event][1] is not None:
+                others = [other for other in range(many + 1) if other in ends and other != event]
+                found.append((row, (event, tuple([(other, ends[other][0] - ends[event][1]) for other in others]))))
+    return found
+
+
+def stands(table, orders):
+    """Whether in each row each side that can't be 0, and whose unknown is not, can have its like in another one."""
+    for sides, right in table[1]:
+        spans = [(orders[unknown], least, greatest) for unknown, least, greatest in sides if orders[unknown] is not None]
+        if right is not None:
+            spans.append((0, *right))
+        for place, (order, _, greatest) in enumerate(spans):
+            others = [by + least for at, (by, least, _) in enumerate(spans) if at != place]
+            if greatest is not None and not [1 for other in others if other <= order + greatest]:
+                return False
+    return True
+
+
+def added(one, other):
+    """The sum of two numbers that are dicts from powers to fractions."""
+    found = {power: one.get(power, 0) + other.get(power, 0) for power in [*one, *other]}
+    return {power: factor for power, factor in found.items() if factor}
+
+
+def product(one, other):
+    found = {}
+    for power, factor in one.items():
+        found = added(found, {power + by: factor * share for by, share in other.items()})
+    return found
+
+
+def plain(number):
+    """A number as a dict from powers to fractions."""
+    return {power: fractions.Fraction(*factor) for power, factor in number}
+
+
+def is_answer(table, telling, answer):
+    """Whether quotients are an answer, all sides being brought to one den."""
+    for (sides, _), (numbers, right) in zip(table[1], telling):
+        dens = [plain(answer[unknown][1]) for unknown, _, _ in sides]
+        parts = [product(plain(number), plain(answer[side[0]][0])) for side, number in zip(sides, numbers)]
+        parts.append(product({0: fractions.Fraction(-1)}, plain(right)))
+        whole = {}
+        for place, part in enumerate(parts):
+            for at, den in enumerate(dens):
+                part = product(part, den) if at != place else part
+            whole = added(whole, part)
+        if whole:
+            return False
+    return True

@@ -164,3 +164,15 @@ def drawn_system(draw, many, most_waits=6, size=5, most_options=3):
 
 def drawing(seed):
     return random.Random(seed)
+
+
+def plain_own(system, thing):
+    """Whether a value of any kind is of such a kind as own waits are: a dict from integers to indexes and integers."""
+    if not isinstance(thing, dict) or any([key.__class__ is not int for key in thing]):
+        return False
+    for item in thing.values():
+        if not isinstance(item, tuple) or [part.__class__ for part in item] != [int, int]:
+            return False
+        if item[0] not in range(len(system[1])):
+            return False
+    return True

@@ -45,6 +45,27 @@ INTERFACE = {
         "with_gap": "system, one, other, gap", "gap_span": "system, one, other",
         "plan_with_gap": "system, one, other, gap", "gap_paper": "system, one, other, gap",
     },
+    "binding": {
+        "binding": "system, floors", "slack_of": "system, plan",
+        "greatest_delay": "system, floors, ceilings, index, place",
+    },
+    "following": {
+        "contrary": "system, wait", "follows": "system, wait", "is_follow_paper": "system, wait, thing",
+        "counter_plan": "system, wait", "follow_paper": "system, wait",
+    },
+    "lots": {
+        "system_of_lot": "system, lot", "least_bars": "system, event", "greatest_frees": "system, event",
+        "first_bar": "system, event",
+    },
+    "alike": {
+        "parting_plan": "one, other", "says_same": "one, other", "needless_waits": "system", "spare_system": "system",
+        "shorter_wait": "system, index",
+    },
+    "tablewaits": {"system_of": "table", "wait_places": "table"},
+    "tellings": {
+        "is_answer": "table, telling, thing", "is_shown": "table, orders, thing", "orders_of": "answer",
+        "telling_for": "table, orders",
+    },
 }
 
 FOLDER = pathlib.Path(leastpowers.__file__).parent

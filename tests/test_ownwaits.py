@@ -3,7 +3,7 @@ import unittest
 import oracle
 from leastpowers.leastplan import barred_events, least_plan
 from leastpowers.ownwaits import decision_of, is_decision, is_own_waits, own_waits, weights_for
-from samples import ANY, BIG, call, drawing, drawn_system, exchanged
+from samples import ANY, BIG, call, drawing, drawn_system, exchanged, plain_own
 
 SYSTEM = (3, ((0, ((1, 2),)), (1, ((0, -1), (2, 0))), (2, ((2, 1),))))
 OWN = {0: (0, 0), 1: (1, -4), 2: (2, 0)}
@@ -12,14 +12,7 @@ OPEN = (3, SYSTEM[1][:2])
 
 def is_plain_own(system, thing):
     """Whether a value of any kind is own waits: first that all of it is of the right kind, then by the definition."""
-    if not isinstance(thing, dict) or any([key.__class__ is not int for key in thing]):
-        return False
-    for item in thing.values():
-        if not isinstance(item, tuple) or [part.__class__ for part in item] != [int, int]:
-            return False
-        if item[0] not in range(len(system[1])):
-            return False
-    return oracle.are_own_waits(system, thing)
+    return plain_own(system, thing) and oracle.are_own_waits(system, thing)
 
 
 class OwnWaitsTest(unittest.TestCase):
