@@ -23,13 +23,25 @@ def gap_span(system, one, other):
 
 def greatest_gap(system, one, other):
     """The greatest gap of two events that are not barred, None for without end."""
-    # With floors so low for all but other, one is late only because of other; or else it comes near to its
+    gap = -earliest_beside(system, other)[one]
+    return gap if gap <= farthest(system) else None
+
+
+def earliest_beside(system, event):
+    """The plan in which an event that is not barred happens at 0, and each other one as early as it can beside it.
+
+    One that can be ever earlier is ahead of it by more than farthest tells.
+    """
+    # With floors so low for all others, one of them is late only because of this event; or else it comes near to its
     # floor, and would to each lower one.
-    reach = system[0] * greatest_size(system)
-    floors = [-2 * reach - 1] * system[0]
-    floors[other] = 0
-    gap = -least_from(system, floors)[one]
-    return gap if gap <= reach else None
+    floors = [-2 * farthest(system) - 1] * system[0]
+    floors[event] = 0
+    return least_from(system, floors)
+
+
+def farthest(system):
+    """The greatest size that an end of a gap can have."""
+    return system[0] * greatest_size(system)
 
 
 def greatest_size(system):

@@ -1,7 +1,8 @@
 """Numbers for a table, and what its unknowns are with them."""
 
 from leastpowers.forms import is_quotient, is_telling, is_tuple_of
-from leastpowers.numbers import ONE, later, less, order_of, quotient, quotient_order, term, times, total, total_of
+from leastpowers.numbers import (
+    ONE, later, least_order, less, quotient, quotient_order, term, times, total, total_of)
 from leastpowers.plans import keeps
 from leastpowers.tablewaits import system_of
 
@@ -66,9 +67,9 @@ def balanced(parts):
     # as the orders stand, above its own greatest one.
     reached = [later(order, least) for order, least in parts]
     numbers = [term(least, (1, 1)) for order, least in parts]
-    if reached.count(None) == len(parts):
+    if least_order(reached) is None:
         return numbers
-    first = reached.index(min([power for power in reached if power is not None]))
+    first = reached.index(least_order(reached))
     others = total([power_of(power) for at, power in enumerate(reached) if at != first])
     order = parts[first][0]
     numbers[first] = times(term(-order, (-1, 1)), others)

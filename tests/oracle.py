@@ -153,7 +153,7 @@ def top_of(system, further=()):
 
 
 def follows(system, wait):
-    """Whether a wait is kept by all plans that keep a system, with orders up to where a plan that does not would be."""
+    """Whether all plans that keep a system, up to where one would be that does not, keep a wait."""
     alone = (system[0], (wait,))
     return all([keeps(alone, plan) for plan in plans(system, 0, top_of(system, [wait]))])
 
@@ -194,7 +194,7 @@ def placed_waits(table):
 def stands(table, orders):
     """Whether in each row each side that can't be 0, and whose unknown is not, can have its like in another one."""
     for sides, right in table[1]:
-        spans = [(orders[unknown], least, greatest) for unknown, least, greatest in sides if orders[unknown] is not None]
+        spans = [(orders[unknown], *bounds) for unknown, *bounds in sides if orders[unknown] is not None]
         if right is not None:
             spans.append((0, *right))
         for place, (order, _, greatest) in enumerate(spans):
@@ -236,3 +236,52 @@ def is_answer(table, telling, answer):
         if whole:
             return False
     return True
+
+
+def silent(table):
+    """The table with all right sides None."""
+    return (table[0], tuple([(sides, None) for sides, _ in table[1]]))
+
+
+def loud_plans(table):
+    """All orders, not all None, from 0 to where there are some if there are any, that stand without right sides."""
+    table = silent(table)
+    delays = [delay for _, (_, options) in placed_waits(table) for _, delay in options]
+    orders = [None, *range(table[0] * max([0, *delays]) + 1)]
+    found = [tried for tried in itertools.product(orders, repeat=table[0]) if stands(table, tried)]
+    return [tried for tried in found if tried != (None,) * table[0]]
+
+
+def are_own_rows(table, rows, weights):
+    """Whether tuples of plain integers, rows being indexes, are own rows, by the definition."""
+    many = table[0]
+    for unknown, row in enumerate(rows):
+        ends = {}
+        for other in range(many):
+            bounds = [side[1:] for side in table[1][row][0] if side[0] == other]
+            if bounds:
+                ends[other] = low_high(bounds)
+        if unknown not in ends or ends[unknown][1] is None:
+            return False
+        for other in ends:
+            if other != unknown:
+                if not weights[unknown] < weights[other] + (many + 1) * (ends[other][0] - ends[unknown][1]):
+                    return False
+    return True
+
+
+def determinant(table, telling):
+    """The determinant of a telling of a table with as many rows as unknowns, as a dict from powers to fractions."""
+    many = table[0]
+    cells = [[{} for _ in range(many)] for _ in range(many)]
+    for row, ((sides, _), (numbers, _)) in enumerate(zip(table[1], telling)):
+        for side, number in zip(sides, numbers):
+            cells[row][side[0]] = added(cells[row][side[0]], plain(number))
+    whole = {}
+    for order in itertools.permutations(range(many)):
+        turns = [1 for one, other in itertools.combinations(order, 2) if one > other]
+        part = {0: fractions.Fraction((-1) ** len(turns))}
+        for row, unknown in enumerate(order):
+            part = product(part, cells[row][unknown])
+        whole = added(whole, part)
+    return whole

@@ -66,6 +66,20 @@ INTERFACE = {
         "is_answer": "table, telling, thing", "is_shown": "table, orders, thing", "orders_of": "answer",
         "telling_for": "table, orders",
     },
+    "standing": {"stands": "table, orders", "lonely_side": "table, orders"},
+    "leastorders": {
+        "some_orders": "table", "orders_with": "table, wanted", "order_span": "table, unknown",
+        "least_at_once": "table", "least_telling": "table", "may_be_none": "table, unknown",
+    },
+    "orderpapers": {
+        "below": "table, unknown, order", "above": "table, unknown, order", "least_paper": "table, unknown, order",
+        "greatest_paper": "table, unknown, order", "is_least_paper": "table, unknown, order, thing",
+        "is_greatest_paper": "table, unknown, order, thing",
+    },
+    "silence": {
+        "is_silent": "table", "loud_orders": "table", "barred_unknowns": "table", "silent_lots": "table",
+    },
+    "ownrows": {"own_rows": "table", "own_weights": "table, rows", "is_own": "table, thing"},
 }
 
 FOLDER = pathlib.Path(leastpowers.__file__).parent

@@ -70,6 +70,11 @@ class LanguageTest(unittest.TestCase):
                     self.assertLess(order.index(file), order.index(name.removesuffix(".py")), name)
             self.assertEqual([], nodes(tree, ast.Import))
 
+    def test_all_that_is_imported_is_used(self):
+        for name, _, tree in trees():
+            used = [node.id for node in nodes(tree, ast.Name) if isinstance(node.ctx, ast.Load)]
+            self.assertEqual([], sorted(set(imported_names(tree)) - set(used)), name)
+
     def test_statements_are_plain(self):
         for name, _, tree in trees():
             for node in nodes(tree, ast.stmt):

@@ -161,7 +161,8 @@ class TellingForTest(unittest.TestCase):
     def test_tables_with_little_in_them(self):
         for table, orders, expected in [
                 ((0, ()), (), True), ((2, ()), (None, 5), True), ((0, (((), None),)), (), True),
-                ((0, (((), (0, None)),)), (), True), ((0, (((), (0, 7)),)), (), False), ((1, (((), None),)), (4,), True),
+                ((0, (((), (0, None)),)), (), True), ((0, (((), (0, 7)),)), (), False),
+                ((1, (((), None),)), (4,), True),
                 ((1, (((), (3, 3)),)), (None,), False)]:
             self.check(table, orders, expected)
 
