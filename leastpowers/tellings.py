@@ -1,5 +1,7 @@
 """Numbers for a table, and what its unknowns are with them."""
 
+from math import lcm
+
 from leastpowers.forms import is_quotient, is_telling, is_tuple_of
 from leastpowers.numbers import (
     ONE, later, least_order, less, quotient, quotient_order, term, times, total, total_of)
@@ -26,8 +28,17 @@ def is_right(sides, told, answer):
     for side, number in zip(sides, numbers):
         num, den = answer[side[0]]
         nums[den] = total([nums.get(den, ()), times(number, num)])
-    rest = total_of([quotient(nums[den], den) for den in nums if nums[den] != ()])
+    rest = total_of([whole(nums[den], den) for den in nums if nums[den] != ()])
     return rest[0] == ()
+
+
+def whole(num, den):
+    """The quotient num / den with factors that are integers, with which long products are quick."""
+    by = 1
+    for _, factor in num + den:
+        by = lcm(by, factor[1])
+    scale = term(0, (by, 1))
+    return quotient(times(scale, num), times(scale, den))
 
 
 def orders_of(answer):
