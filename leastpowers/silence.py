@@ -2,7 +2,7 @@
 
 from itertools import combinations
 
-from leastpowers.errors import TooMany
+from leastpowers.errors import NotSilent, TooMany
 from leastpowers.leastplan import barred_events, least_plan
 from leastpowers.tables import ordered_rows, without_rights
 from leastpowers.tablewaits import system_of
@@ -25,6 +25,13 @@ def loud_orders(table):
     many = table[0]
     orders = least_plan(silent_system(table))[:many]
     return None if orders == (None,) * many else orders
+
+
+def need_silent(table):
+    """Raises NotSilent if a table is not silent."""
+    orders = loud_orders(table)
+    if orders is not None:
+        raise NotSilent(orders)
 
 
 def barred_unknowns(table):

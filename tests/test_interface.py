@@ -80,6 +80,21 @@ INTERFACE = {
         "is_silent": "table", "loud_orders": "table", "barred_unknowns": "table", "silent_lots": "table",
     },
     "ownrows": {"own_rows": "table", "own_weights": "table, rows", "is_own": "table, thing"},
+    "margins": {"greatest_margin": "table, row, place", "least_margin": "table, row, place"},
+    "determinants": {
+        "determinant_span": "table", "lead_of": "table, telling", "answer_of": "table, telling", "own_gap": "table",
+        "determinant_of": "table, telling",
+    },
+    "walks": {
+        "is_walk": "table, thing", "length_of": "table, walk", "walks_of": "table, unknown, most",
+        "shortest": "table, unknown", "second_length": "table, unknown",
+    },
+    "formulas": {
+        "told_orders": "table", "parting_tellings": "table, unknown", "formula_of": "table, unknown",
+        "sure_by": "table, unknown",
+    },
+    "tones": {"table_at": "table, s", "no_tone": "table, s", "tone_orders": "table, s"},
+    "counted": {"tones_above": "table, s", "roots_above": "polynomial, s", "polynomial_of": "table, telling"},
 }
 
 FOLDER = pathlib.Path(leastpowers.__file__).parent
