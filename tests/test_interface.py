@@ -95,6 +95,31 @@ INTERFACE = {
     },
     "tones": {"table_at": "table, s", "no_tone": "table, s", "tone_orders": "table, s"},
     "counted": {"tones_above": "table, s", "roots_above": "polynomial, s", "polynomial_of": "table, telling"},
+    "tonegaps": {"gap_of": "table, s"},
+    "sametables": {
+        "parting_orders": "one, other", "stand_alike": "one, other", "needless_rows": "table", "spare_table": "table",
+    },
+    "readback": {
+        "is_fit": "table, runs, row, thing", "fit_of": "table, runs, row", "fit_span": "table, runs, row, place",
+        "side_system": "table, runs, row", "wrong_runs": "table, runs, row",
+    },
+    "realnumbers": {
+        "small_of": "table, size", "worth_of": "number, at", "off_by": "table, size, small, unknown",
+        "telling_at": "telling, at", "real_answer": "table, numbers", "reach_of": "table, size, small",
+        "is_real": "table, size, small, thing", "is_reach": "table, size, small, thing",
+    },
+    "live": {},
+    "desk": {},
+}
+
+# The classes, but those of errors, with the parameters of their methods.
+CLASSES = {
+    ("live", "Live"): {
+        "__init__": "self, system", "put_wait": "self, wait", "drop_wait": "self, index", "owe": "self, duty",
+        "free": "self, index", "system": "self", "duties": "self", "plan": "self", "back": "self", "again": "self",
+        "twin": "self", "__eq__": "self, other",
+    },
+    ("desk", "Desk"): {"__init__": "self, text", "execute": "self, line", "live": "self"},
 }
 
 FOLDER = pathlib.Path(leastpowers.__file__).parent
@@ -109,6 +134,15 @@ class InterfaceTest(unittest.TestCase):
                 self.assertTrue(inspect.isfunction(function), name)
                 self.assertEqual(f"leastpowers.{file}", function.__module__)
                 self.assertEqual(f"({parameters})", str(inspect.signature(function)), name)
+
+    def test_classes_define_their_methods_themselves(self):
+        for (file, name), methods in CLASSES.items():
+            made = getattr(importlib.import_module(f"leastpowers.{file}"), name)
+            self.assertTrue(inspect.isclass(made), name)
+            self.assertEqual(f"leastpowers.{file}", made.__module__)
+            for method, parameters in methods.items():
+                self.assertTrue(inspect.isfunction(vars(made)[method]), method)
+                self.assertEqual(f"({parameters})", str(inspect.signature(vars(made)[method])), method)
 
     def test_errors_have_their_parameters(self):
         module = importlib.import_module("leastpowers.errors")

@@ -105,14 +105,23 @@ class LanguageTest(unittest.TestCase):
                 self.assertFalse(bound.startswith("__"), name)
 
     def test_only_some_builtins_and_methods_are_used(self):
+        classes = [node for _, _, tree in trees() for node in nodes(tree, ast.ClassDef)]
+        own = [node.name for made in classes for node in nodes(made, ast.FunctionDef)]
         for name, _, tree in trees():
             known = [*BUILTINS, *bound_names(tree), *imported_names(tree)]
             for node in nodes(tree, ast.Name):
                 self.assertIn(node.id, known, f"{name}:{node.lineno}")
-            own = [node.name for node in nodes(tree, ast.FunctionDef)]
             for node in nodes(tree, ast.Call):
                 if isinstance(node.func, ast.Attribute):
                     self.assertIn(node.func.attr, [*METHODS, *own], f"{name}:{node.lineno}")
+
+    def test_attributes_are_no_methods(self):
+        for name, _, tree in trees():
+            for made in nodes(tree, ast.ClassDef):
+                methods = [node.name for node in nodes(made, ast.FunctionDef)]
+                held = [node.attr for node in nodes(made, ast.Attribute) if isinstance(node.ctx, ast.Store)]
+                self.assertEqual([], sorted(set(methods) & set(held)), made.name)
+                self.assertEqual(len(methods), len(set(methods)), made.name)
 
     def test_no_local_name_is_that_of_a_function_of_its_file(self):
         for name, _, tree in trees():
