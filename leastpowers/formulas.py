@@ -34,15 +34,14 @@ def cancelling(table, unknown):
     rows = rows_of_exact(table)
     options = exact_options(table)
     ends = ends_of(options)
-    for head, after in steps_of(table[0], shortest_walk(options, ends, unknown)):
-        all_ways = shortest_many(options, ends, head)
-        ways = shortest_many(options, ends, after)
-        # All shortest walks come to this head, and none goes by this side but from here.
-        if ways < all_ways:
-            place = place_of(table, rows[head], after)
-            sign = -1 if after == table[0] else 1
-            return (rows[head], place, fraction_of(sign * (all_ways - ways), ways))
-    return None
+    steps = steps_of(table[0], shortest_walk(options, ends, unknown))
+    forks = [step for step in steps if shortest_many(options, ends, step[1]) < shortest_many(options, ends, step[0])]
+    # All shortest walks come to the first head from which some go another way, and none goes by this side but there.
+    head, after = forks[0]
+    ways = shortest_many(options, ends, after)
+    others = shortest_many(options, ends, head) - ways
+    sign = -1 if after == table[0] else 1
+    return (rows[head], place_of(table, rows[head], after), fraction_of(sign * others, ways))
 
 
 def shortest_many(options, ends, event):

@@ -26,10 +26,8 @@ def nearest_tone(table, s, above, sign):
             end = middle
         else:
             start = middle
-    for num, den in fractions_up_to(start, end, table[0]):
-        if num * s[1] > sign * s[0] * den and is_beyond_tone(table, (sign * num, den), above):
-            return (sign * num, den)
-    return None
+    tried = [(sign * num, den) for num, den in fractions_up_to(start, end, table[0]) if num * s[1] > sign * s[0] * den]
+    return [t for t in tried if is_beyond_tone(table, t, above)][0]
 
 
 def greatest_tone(table):

@@ -139,7 +139,8 @@ class DeskTest(unittest.TestCase):
         # A line wait is as read_system would read it, with integers of up to forty digits.
         desk = Desk(TEXT)
         self.run_lines(desk, [
-            ("follows 1 0+1000000000000", ["no"]), ("follows 1 0-1000000000000", ["yes"]), (f"wait 0 1+{BIG}", ["done"]),
+            ("follows 1 0+1000000000000", ["no"]), ("follows 1 0-1000000000000", ["yes"]),
+            (f"wait 0 1+{BIG}", ["done"]),
             (f"wait 0 1+{10 * BIG}", NoCommand), ("wait 0 1-1000000000", ["done"]), ("wait 0 1+01", NoCommand),
             ("wait 0 1+", NoCommand), ("wait 0 +1", NoCommand), ("wait 0 1-0", NoCommand), ("wait 0 1+-1", NoCommand),
             ("wait 0 1", NoCommand), ("wait 00", NoCommand), ("wait", NoCommand), ("follows", NoCommand),
@@ -156,7 +157,8 @@ class DeskTest(unittest.TestCase):
 
     def test_words_more_and_less(self):
         desk = Desk(TEXT)
-        lines = ["system", "duties", "plan", "barred", "back", "again", "drop 0", "free 0", "owe can 0", "owe ahead 0 1 2"]
+        lines = ["system", "duties", "plan", "barred", "back", "again", "drop 0", "free 0", "owe can 0"]
+        lines.append("owe ahead 0 1 2")
         for line in lines:
             for other in [f"{line} 0", f"{line} plan", f"0 {line}", line.upper(), f"{line}x"]:
                 if (line, other) not in [("drop 0", "drop 0x")]:
@@ -173,7 +175,8 @@ class DeskTest(unittest.TestCase):
         self.run_lines(desk, [
             ("owe can 0", ["done"]), ("owe can 1", ["done"]), ("wait 0", ["refused Broken"]), ("wait 1 0-9", ["done"]),
             ("wait 1", ["refused TooMany"]), ("wait 2", NoCommand), ("again", ["refused Nothing"]), ("back", ["done"]),
-            ("again", ["done"]), ("drop 40", ["refused NoIndex"]), ("drop 39", ["done"]), ("free 2", ["refused NoIndex"]),
+            ("again", ["done"]), ("drop 40", ["refused NoIndex"]), ("drop 39", ["done"]),
+            ("free 2", ["refused NoIndex"]),
             ("free 1", ["done"]), ("duties", ["can 0"]), ("wait 1", ["refused Broken"]), ("free 0", ["done"]),
             ("wait 1", ["done"]), ("barred", ["0 1"]), ("owe can 1", ["refused Broken"]), ("duties", []),
             ("drop 0", ["done"]), ("owe ahead 0 1 5", ["done"]), ("drop 38", ["refused Broken"])])

@@ -129,7 +129,8 @@ class FormulasTest(unittest.TestCase):
     def test_more_ties_than_walks_that_are_listed(self):
         # Each unknown but the last one goes to all behind it, and to the right side, all by the same delay in the end.
         many = 13
-        rows = tuple([(tuple([(other, other - own, other - own) for other in range(own, many)]), (many - own, many - own))
+        rows = tuple([
+            (tuple([(other, other - own, other - own) for other in range(own, many)]), (many - own, many - own))
             for own in range(many)])
         self.assertEqual((), call(self, told_orders, (many, rows))[0])
         self.assertEqual((many, (0,)), call(self, shortest, (many, rows), 0))
@@ -139,10 +140,10 @@ class FormulasTest(unittest.TestCase):
     def test_drawn_tables(self):
         draw = drawing(151)
         found = {"none": 0, "one": 0, "tied": 0, "second": 0}
-        for table in exact_tables(draw, 120, 4):
+        for table in exact_tables(draw, 70, 4):
             for unknown in range(table[0]):
                 found[self.check(table, unknown)] += 1
-        self.assertTrue(min(found.values()) > 15, found)
+        self.assertTrue(min(found.values()) > 8, found)
 
     def test_larger_tables_and_their_tellings(self):
         draw = drawing(152)
@@ -187,8 +188,9 @@ class FormulasTest(unittest.TestCase):
             for unknown, told in enumerate(told_orders(table)):
                 if told not in [(), (None,)]:
                     sign, above, below = formula_of(table, unknown)
-                    shown = [tuple(sorted([(order.index(row), self.turned(table, row, place)) for row, place in places]))
+                    shown = [[(order.index(row), self.turned(table, row, place)) for row, place in places]
                         for places in [above, below]]
+                    shown = [tuple(sorted(places)) for places in shown]
                     self.assertEqual((sign, *shown), call(self, formula_of, moved, unknown))
                     self.assertEqual(sure_by(table, unknown), sure_by(moved, unknown))
 

@@ -244,7 +244,8 @@ class LiveTest(unittest.TestCase):
         live = Live(SYSTEM)
         shown = [state(live)]
         for name, thing in [
-                ("owe", ("can", 1)), ("put_wait", (0, ((1, -7),))), ("drop_wait", 1), ("free", 0), ("put_wait", (2, ()))]:
+                ("owe", ("can", 1)), ("put_wait", (0, ((1, -7),))), ("drop_wait", 1), ("free", 0),
+                ("put_wait", (2, ()))]:
             self.do(live, name, thing)
             shown.append(state(live))
         self.assertEqual(6, len(set(shown)))
@@ -276,7 +277,8 @@ class LiveTest(unittest.TestCase):
         live.back()
         for call_it, error in [
                 (lambda: live.put_wait((1, ())), Broken), (lambda: live.put_wait(None), Wrong),
-                (lambda: live.drop_wait(9), NoIndex), (lambda: live.owe(None), NoDuty), (lambda: live.free(1), NoIndex)]:
+                (lambda: live.drop_wait(9), NoIndex), (lambda: live.owe(None), NoDuty),
+                (lambda: live.free(1), NoIndex)]:
             failed(self, error, call_it)
         live.again()
         self.assertEqual((0, ((2, -9),)), live.system()[1][-1])

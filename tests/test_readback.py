@@ -119,7 +119,8 @@ class ReadbackTest(unittest.TestCase):
         table = (3, ((((0, 2, None), (1, 0, 4), (2, -1, None)), (1, 9)),))
         for runs, spans in [
                 (((0, 0, 0),), [(2, None), (0, 4), (0, None)]), (((0, None, None),), [(2, 9), (0, 4), (-1, None)]),
-                (((None, None, 7),), [(2, None), (0, 4), (-1, 2)]), (((None, 1, None),), [(2, None), (0, 4), (-1, None)])]:
+                (((None, None, 7),), [(2, None), (0, 4), (-1, 2)]),
+                (((None, 1, None),), [(2, None), (0, 4), (-1, None)])]:
             self.assertEqual(spans, [call(self, fit_span, table, runs, 0, place) for place in range(3)])
             self.check_fit(table, runs, 0, True)
 
@@ -166,7 +167,8 @@ class ReadbackTest(unittest.TestCase):
         alone = (1, ((((0, 0, None),), None),))
         for thing in ANY + list(exchanged((3, 2))) + list(exchanged((3, None))) + list(exchanged((None,))):
             for table, runs in [(TABLE, RUNS), (TABLE, RUNS[:1]), (alone, ((0,),)), (alone, ((None,),))]:
-                self.assertIs(slow_is_fit(table, runs, 0, thing), call(self, is_fit, table, runs, 0, thing), repr(thing))
+                expected = slow_is_fit(table, runs, 0, thing)
+                self.assertIs(expected, call(self, is_fit, table, runs, 0, thing), repr(thing))
             for row in range(2):
                 expected = slow_is_fit(empty, ((3,),), row, thing)
                 self.assertIs(expected, call(self, is_fit, empty, ((3,),), row, thing), repr(thing))

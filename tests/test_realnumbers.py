@@ -204,7 +204,8 @@ class RealTest(unittest.TestCase):
             self.assertIs(False, call(self, is_real, WIDE, 1, SMALL, thing))
 
     def test_fractions_that_are_not_in_lowest_terms(self):
-        for thing in [(2, 2), (2, 4), (-1, -1), (1, 0), (1, -1), (True, 1), (1, True), 1, (1,), (1, 1, 1), [1, 1], None]:
+        for thing in [(2, 2), (2, 4), (-1, -1), (1, 0), (1, -1), (True, 1), (1, True), 1, (1,), (1, 1, 1), [1, 1],
+                None]:
             self.assertIs(False, call(self, is_real, TABLE, 2, SMALL, self.with_number(0, 0, thing)), thing)
 
     def test_sizes_1_and_9_and_small_as_great_as_can_be(self):

@@ -1,4 +1,5 @@
 import fractions
+import itertools
 import math
 import unittest
 
@@ -53,6 +54,17 @@ class GapOfTest(unittest.TestCase):
         self.assertEqual(((2, 1), None), call(self, gap_of, (1, ((((0, 2, 2),), None),)), (5, 2)))
         # An own tone can be of each order from 1 on, and of none below.
         self.assertEqual((None, (1, 1)), call(self, gap_of, (1, ((((0, 1, None),), None),)), (1, 2)))
+
+    def test_tones_as_far_as_they_can_be(self):
+        # Each unknown but the last one makes up for the next one, as the last one, by c, for the first one.
+        for many, size in itertools.product(range(1, 7), [1, 20]):
+            rows = [(((at, -size, -size), (at + 1, size, size)), None) for at in range(many - 1)]
+            table = (many, (*rows, (((0, size, size),), None)))
+            lower = (-size, 1) if many > 1 else None
+            upper = ((2 * many - 1) * size, 1)
+            for s in [(0, 1), (1 - 2 * size, 2), (2 * upper[0] - 1, 2)]:
+                self.assertEqual((lower, upper), call(self, gap_of, table, s))
+            self.assertEqual((upper, None), call(self, gap_of, table, (2 * upper[0] + 1, 2)))
 
     def test_dens_up_to_the_number_of_unknowns(self):
         for many in range(1, 7):
